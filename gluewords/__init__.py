@@ -1,0 +1,1 @@
+"""Words that others make, and the web of letters that tells which."""
