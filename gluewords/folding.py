@@ -1,6 +1,6 @@
 """Making rooms one until each letter leads to one room at most from each room."""
 
-from gluewords.leads import both_ways
+from gluewords.leads import both_ways, tie_of
 
 
 def rings(words):
@@ -10,11 +10,11 @@ def rings(words):
     for word in words:
         here = 0
         for letter in word[:-1]:
-            ties.append(_tie(here, letter, rooms))
+            ties.append(tie_of(here, letter, rooms))
             here = rooms
             rooms += 1
         if word:
-            ties.append(_tie(here, word[-1], 0))
+            ties.append(tie_of(here, word[-1], 0))
     return ties
 
 
@@ -37,12 +37,6 @@ def folded(ties):
             moved = exits.pop(high, {})
             waiting.extend([(low, mark, room) for mark, room in moved.items()])
     return _ties_of(joined, exits)
-
-
-def _tie(here, letter, there):
-    if letter.islower():
-        return (here, letter, there)
-    return (there, letter.lower(), here)
 
 
 def _lowest(joined, room):

@@ -2,8 +2,8 @@
 
 from gluewords.errors import BadWeb
 from gluewords.folding import folded, rings
-from gluewords.leads import leads_of, numbering
-from gluewords.words import short
+from gluewords.leads import leads_of, numbering, renumbered
+from gluewords.words import is_small, short
 
 
 def is_web(thing):
@@ -23,9 +23,7 @@ def check_web(thing):
 def web_of(words):
     """Return the web that reads just the words that the row makes."""
     # Rings of short words need no pruning: each room but 0 has two letters that lead on.
-    ties = folded(rings([short(word) for word in words]))
-    numbers = numbering(ties)
-    return sorted([(numbers[first], letter, numbers[second]) for first, letter, second in ties])
+    return renumbered(folded(rings([short(word) for word in words])))
 
 
 def reads(web, word):
@@ -43,16 +41,12 @@ def _is_tie(thing):
     if type(thing) != tuple or len(thing) != 3:
         return False
     first, letter, second = thing
-    return _is_room(first) and _is_small(letter) and _is_room(second)
+    return _is_room(first) and is_small(letter) and _is_room(second)
 
 
 def _is_room(thing):
     # True and False are of the class bool, so they are none.
     return type(thing) == int and thing >= 0
-
-
-def _is_small(thing):
-    return type(thing) == str and len(thing) == 1 and "a" <= thing <= "z"
 
 
 def _is_rising(ties):

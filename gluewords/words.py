@@ -9,6 +9,11 @@ def is_word(thing):
     return type(thing) == str and all([_is_letter(sign) for sign in thing])
 
 
+def is_small(thing):
+    """Tell whether the thing is one small letter."""
+    return type(thing) == str and len(thing) == 1 and "a" <= thing <= "z"
+
+
 def check_word(thing):
     """Refuse what is no word."""
     if not is_word(thing):

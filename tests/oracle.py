@@ -110,6 +110,23 @@ def products(row, bound):
     return made
 
 
+def fewest_factors(row, most):
+    """The least number of factors of each product of so many words of the row and their backs."""
+    steps = [shrunk(word) for word in row] + [turned_word(word) for word in row]
+    told = {"": 0}
+    last = [""]
+    for many in range(1, most + 1):
+        new = []
+        for word in last:
+            for step in steps:
+                longer = shrunk(word + step)
+                if longer not in told:
+                    told[longer] = many
+                    new.append(longer)
+        last = new
+    return told
+
+
 def generators(web):
     """Words around each tie that is not needed to come to the rooms."""
     ways = {0: ""}
@@ -145,3 +162,85 @@ def random_row(chance, words, letters, total):
         row.append(random_word(chance, letters, many))
         total -= many
     return row
+
+
+def multiplied(row, making):
+    """The product of these numbers, in order, as a short word."""
+    parts = {}
+    for at, word in enumerate(row):
+        parts[at + 1] = shrunk(word)
+        parts[-at - 1] = turned_word(word)
+    kept = []
+    for number in making:
+        for letter in parts[number]:
+            if kept and kept[-1] == turned(letter):
+                kept.pop()
+            else:
+                kept.append(letter)
+    return "".join(kept)
+
+
+def padded(chance, word, letters, times):
+    """The word with letters and their backs put in between."""
+    for _ in range(times):
+        at = chance.randint(0, len(word))
+        letter = chance.choice(letters)
+        word = word[:at] + letter + turned(letter) + word[at:]
+    return word
+
+
+def rooms_of(web):
+    return sorted({0} | {room for first, _, second in web for room in (first, second)})
+
+
+def neighbours(web, room):
+    """The (letter, room) to which letters lead, letter by letter, along before back."""
+    led = []
+    for letter in sorted({letter for _, letter, _ in web}):
+        led += [(letter, end) for start, mark, end in web if (start, mark) == (room, letter)]
+        led += [(letter.upper(), start) for start, mark, end in web if (end, mark) == (room, letter)]
+    return led
+
+
+def ways(web):
+    """The way to each room: each is found from the lowest room beside it."""
+    told = {0: ""}
+    for room in rooms_of(web)[1:]:
+        for known in rooms_of(web)[:room]:
+            letters = [letter for letter, end in neighbours(web, known) if end == room]
+            if letters:
+                told[room] = told[known] + letters[0]
+                break
+    return told
+
+
+def fewest(web):
+    """The words around the ties by which no room was found, by the ways alone."""
+    told = ways(web)
+    words = []
+    for first, letter, second in web:
+        along = told[second] == told[first] + letter
+        against = told[first] == told[second] + turned(letter)
+        if not along and not against:
+            words.append(shrunk(told[first] + letter + turned_word(told[second])))
+    return words
+
+
+def random_whole_ties(chance, rooms, letters):
+    """Ties with which each letter begins and ends once at each room, perhaps not all come to."""
+    ties = []
+    for letter in letters:
+        ends = chance.sample(range(rooms), rooms)
+        ties += [(room, letter, ends[room]) for room in range(rooms)]
+    return ties
+
+
+def named_as_found(ties):
+    """The ties that are come to from room 0, rising, the rooms numbered as they are found."""
+    found = [0]
+    for room in found:
+        for _, end in neighbours(ties, room):
+            if end not in found:
+                found.append(end)
+    return sorted((found.index(first), letter, found.index(second))
+                  for first, letter, second in ties if first in found)

@@ -6,6 +6,9 @@ import os
 import unittest
 
 import gluewords.errors
+import gluewords.few
+import gluewords.making
+import gluewords.meets
 import gluewords.webs
 import gluewords.words
 
@@ -16,6 +19,9 @@ INTERFACE = {
     gluewords.words: {"is_word": ["thing"], "short": ["word"], "back": ["word"],
                       "times": ["one", "other"]},
     gluewords.webs: {"is_web": ["thing"], "web_of": ["words"], "reads": ["web", "word"]},
+    gluewords.making: {"made_by": ["words", "word"]},
+    gluewords.few: {"few": ["web"]},
+    gluewords.meets: {"meet": ["one", "other"], "sides": ["web", "letters"]},
 }
 
 
@@ -60,7 +66,11 @@ class Form(unittest.TestCase):
                 self.assertNotIsInstance(part, ast.Import, name)
                 if isinstance(part, ast.ImportFrom):
                     self.assertEqual(part.level, 0, name)
-                    self.assertTrue(part.module.startswith("gluewords."), part.module)
+                    names = {alias.name for alias in part.names}
+                    if part.module == "heapq":
+                        self.assertLessEqual(names, {"heappush", "heappop"}, name)
+                    else:
+                        self.assertTrue(part.module.startswith("gluewords."), part.module)
 
 
 if __name__ == "__main__":
